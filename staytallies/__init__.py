@@ -1,0 +1,1 @@
+"""Staytallies: tallies of small machines that stay in bounds."""
