@@ -1,9 +1,11 @@
 """Machines, their rows, and the checks of values that other files need too."""
 
-from staytallies.errors import BadEnds, BadMachine, BadRow, BadStand, BadStands, BadSteps
+from staytallies.errors import BadEnds, BadMachine, BadNumber, BadRow, BadStand, BadStands, BadSteps
+from staytallies.ways import led_to
 
 MOST_STANDS = 8
 MOST_GAIN = 10 ** 30
+MOST_NUMBER = 10 ** 40
 LETTERS = ("a", "b", "c", "d")
 
 
@@ -36,9 +38,14 @@ class Machine:
                 and self._steps == other._steps and self._ends == other._ends)
 
 
+def is_whole_number(value):
+    """Tells whether any value is an integer, no boolean."""
+    return isinstance(value, int) and not isinstance(value, bool)
+
+
 def is_integer_between(value, least, most):
     """Tells whether any value is an integer, no boolean, from least to most."""
-    return isinstance(value, int) and not isinstance(value, bool) and least <= value <= most
+    return is_whole_number(value) and least <= value <= most
 
 
 def _is_stand(stands, value):
@@ -90,34 +97,59 @@ def check_stand(machine, value):
         raise BadStand("not a stand of the machine")
 
 
-def _place_behind(machine, value):
-    """The pair of the stand and the tally behind a row, None for any value that is no row."""
+def check_number(value, least, most):
+    """Raises BadNumber for any value that is no integer from least to most."""
+    if not is_integer_between(value, least, most):
+        raise BadNumber(value)
+
+
+def moves_of(machine):
+    """A dict from the pair of a stand and a letter to the pair of the end and the gain of their step."""
+    return {(begun, letter): (end, gain) for begun, letter, end, gain in machine.steps}
+
+
+def way(machine, stand, value):
+    """The pair of the stand to which letters lead from a stand, and of the list of the sums on the way.
+
+    The sums are those of the gains of all beginnings, from 0 on. None for any value that is no such letters.
+    """
     if not isinstance(value, str):
         return None
-    moves = {(begun, letter): (end, gain) for begun, letter, end, gain in machine.steps}
-    stand = 0
-    tally = 0
+    moves = moves_of(machine)
+    sums = [0]
     for letter in value:
         if (stand, letter) not in moves:
             return None
         stand, gain = moves[(stand, letter)]
-        tally += gain
-    return (stand, tally)
+        sums.append(sums[-1] + gain)
+    return (stand, sums)
+
+
+def gain_of_loop(machine, lead, loop):
+    """The sum of the gains of a loop behind a row, None for any values that are no row and no loop behind it."""
+    place = way(machine, 0, lead)
+    if place is None:
+        return None
+    back = way(machine, place[0], loop)
+    if back is None or back[0] != place[0] or loop == "":
+        return None
+    return back[1][-1]
 
 
 def is_row(machine, value):
     """Tells of any value whether it is a row of the machine."""
     check_machine(machine)
-    return _place_behind(machine, value) is not None
+    return way(machine, 0, value) is not None
 
 
 def behind(machine, row):
     """The pair of the stand to which a row leads, and of its tally."""
     check_machine(machine)
-    place = _place_behind(machine, row)
+    place = way(machine, 0, row)
     if place is None:
         raise BadRow("not a row of the machine")
-    return place
+    stand, sums = place
+    return (stand, sums[-1])
 
 
 def ends_well(machine, row):
@@ -126,20 +158,7 @@ def ends_well(machine, row):
     return stand in machine.ends
 
 
-def led_to(machine, begins):
-    """The ascending list of these stands and of all to which letters lead from them."""
-    found = {stand: True for stand in begins}
-    waiting = list(begins)
-    while waiting:
-        stand = waiting.pop()
-        for begun, _, end, _ in machine.steps:
-            if begun == stand and end not in found:
-                found[end] = True
-                waiting.append(end)
-    return sorted(found)
-
-
 def reached(machine):
     """The ascending list of the stands to which rows lead."""
     check_machine(machine)
-    return led_to(machine, [0])
+    return led_to(machine.steps, [0])

@@ -11,6 +11,8 @@ ODD_VALUES = (
     None, True, False, -1, 8, 10 ** 30, "x", "0", "stands 1", (), (0,), (1, (), ()), [], [0], ["a"],
     ("a",), {}, {0: 0}, {"a": 1}, [[], {}], ((), []),
 )
+NO_MACHINES = ODD_VALUES + ((3, SWING.steps, SWING.ends),)
+NO_INTEGERS = tuple(value for value in ODD_VALUES if isinstance(value, bool) or not isinstance(value, int))
 
 
 class Draw:
@@ -41,6 +43,20 @@ def drawn_machines(many, most_stands=4, letters="ab", most_gain=2):
     return [drawn_machine(draw, most_stands, letters, most_gain) for _ in range(many)]
 
 
+def drawn_ladders(many, letters="abc", most_gain=3):
+    """Machines without rings: each step leads to a later stand."""
+    draw = Draw(7)
+    ladders = []
+    for _ in range(many):
+        stands = 2 + draw.below(5)
+        steps = [
+            (begun, letter, begun + 1 + draw.below(stands - begun - 1), draw.below(2 * most_gain + 1) - most_gain)
+            for begun in range(stands - 1) for letter in letters if draw.below(4) > 0
+        ]
+        ladders.append(Machine(stands, tuple(steps), (stands - 1,)))
+    return ladders
+
+
 def rows_to(machine, most):
     """All rows of at most so many letters, shortest first, then least, each with stand and tally."""
     found = [("", 0, 0)]
@@ -54,6 +70,19 @@ def rows_to(machine, most):
         ]
         found = found + newest
     return found
+
+
+def lassos(machine, most):
+    """All pairs of a row and of a loop behind it, of at most so many letters together, with the tallies on the way.
+
+    The triple of the row, the loop, and the list of the tallies of all beginnings of the row and the loop.
+    """
+    ends = {row: (stand, tally) for row, stand, tally in rows_to(machine, most)}
+    for row in ends:
+        tallies = [ends[row[:many]][1] for many in range(len(row) + 1)]
+        for at in range(len(row)):
+            if ends[row[:at]][0] == ends[row][0]:
+                yield row[:at], row[at:], tallies
 
 
 def ring(gains):

@@ -14,6 +14,10 @@ INTERFACE = {
     ),
     "machines": ("Machine", "is_row", "ends_well", "behind", "reached"),
     "extremes": ("greatest_at", "least_at", "greatest_row", "least_row", "bounds", "end_bounds"),
+    "bounding": ("stays", "right_bar", "right_paper", "bar", "paper", "first_leaving"),
+    "energy": ("needed", "credit", "lasting", "right_lasting"),
+    "means": ("greatest_mean", "least_mean", "mean_paper", "right_mean"),
+    "pairs": ("difference", "in_step", "first_apart"),
 }
 
 

@@ -132,8 +132,8 @@ class WrongParts(MachineTestCase):
 
     def test_bad_ends(self):
         for ends in ODD_VALUES + (
-            [1], (2,), (-1,), (True,), (False,), (0, True), (1, 0), (0, 0), (1, 1), (0, 1, 1), (0, 1, 2), ("0",), (None,),
-            ((0,),), (0, [1]), "01",
+            [1], (2,), (-1,), (True,), (False,), (0, True), (1, 0), (0, 0), (1, 1), (0, 1, 1), (0, 1, 2), ("0",),
+            (None,), ((0,),), (0, [1]), "01",
         ):
             if ends not in ((), (0,)):
                 with self.assertRaises(BadEnds):
