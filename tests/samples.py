@@ -22,8 +22,11 @@ class Draw:
         self.state = seed
 
     def below(self, many):
-        self.state = (self.state * 6364136223846793005 + 1442695040888963407) % 2 ** 64
-        return (self.state >> 33) % many
+        drawn = 0
+        for _ in range(1 + many.bit_length() // 31):
+            self.state = (self.state * 6364136223846793005 + 1442695040888963407) % 2 ** 64
+            drawn = drawn * 2 ** 31 + (self.state >> 33)
+        return drawn % many
 
 
 def drawn_machine(draw, most_stands=4, letters="ab", most_gain=2):
