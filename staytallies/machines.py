@@ -75,14 +75,21 @@ def _check_steps(stands, steps):
             raise BadSteps(index)
 
 
+def is_ascending(value, many):
+    """Tells of any value whether it is an ascending tuple of unlike integers from 0 to below many."""
+    if not isinstance(value, tuple):
+        return False
+    least = 0
+    for number in value:
+        if not is_integer_between(number, least, many - 1):
+            return False
+        least = number + 1
+    return True
+
+
 def _check_ends(stands, ends):
-    if not isinstance(ends, tuple):
-        raise BadEnds("the ends are a tuple")
-    for index, end in enumerate(ends):
-        if not _is_stand(stands, end):
-            raise BadEnds("an end is a stand")
-        if index > 0 and end <= ends[index - 1]:
-            raise BadEnds("the ends ascend")
+    if not is_ascending(ends, stands):
+        raise BadEnds("the ends are an ascending tuple of unlike stands")
 
 
 def check_machine(value):
